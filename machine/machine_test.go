@@ -357,7 +357,7 @@ func (d *dice) script() string {
 func TestAlike(t *testing.T) {
 	d := &dice{x: 7}
 	errors := 0
-	for range 5000 {
+	for range 2500 {
 		k := keys.New()
 		k.Apply(api.Effect{Op: api.EffText, Key: "a", Text: "3"}, api.Effect{Op: api.EffText, Key: "b", Text: "4"})
 		r := plenty()
@@ -369,7 +369,7 @@ func TestAlike(t *testing.T) {
 			errors++
 		}
 	}
-	if errors > 4500 {
+	if errors > 2250 {
 		t.Error("too many scripts end by an error:", errors)
 	}
 }
