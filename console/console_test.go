@@ -128,10 +128,13 @@ func TestRun(t *testing.T) {
 	if got, e := console.Run(most); got != strings.Repeat("0\n", api.MaxLines) || e != api.OK {
 		t.Error(e)
 	}
-	for i, text := range []string{most + "\nnow", strings.Repeat("\n", api.MaxLines+2), strings.Repeat(" ", api.MaxText+1), most + "\n\n" + strings.Repeat("x", api.MaxText)} {
+	for i, text := range []string{most + "\nnow", most + "\n", strings.Repeat("\n", api.MaxLines), strings.Repeat("\n", api.MaxLines+2), strings.Repeat(" ", api.MaxText+1), most + "\n\n" + strings.Repeat("x", api.MaxText)} {
 		if got, e := console.Run(text); got != "" || e != api.ErrLong {
 			t.Error(i, e)
 		}
+	}
+	if got, e := console.Run(strings.Repeat("\n", api.MaxLines-1)); got != "" || e != api.OK {
+		t.Error(got, e)
 	}
 	if got, e := console.Run(strings.Repeat("x", api.MaxText)); got != "error 360\n" || e != api.OK {
 		t.Error(got, e)
