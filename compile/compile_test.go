@@ -164,7 +164,7 @@ func TestPrograms(t *testing.T) {
 		"", "return", "return 1 + 2", "while true do break end", "return {1, x = 'a', [2 + 1] = {}, nil, 5}", "return KEYS[1] .. #ARGV", "local a, b, c = 1, 2 return {a, b or 0, c or 0}", "local a = 1 local b = a a = b + a return {a, b}", "local a, b = 1, 2 a = b and a return a", "local a = 1 a = {a, a} return a[2]", "local a = 5 a = a or 1 a = nil or a return a", "local a = 1 a = a + (a and 2) return a", "local a = {} a = {a, {a}} return #a[2]",
 		"local n = 0 for i = 1, 10 do n = n + i end return n", "local t = {} for i = 3, 1, -1 do t[#t + 1] = i end return t", "for i = 1, 3 do for j = i, 3 do if i * j == 6 then return {i, j} end end end", "local n = 0 for i = 1, 9 do if i == 4 then break end n = i end return n", "for i = 9223372036854775806, 9223372036854775807 do end", "local n = 0 for i = 1, 5, 2 do local x = i i = 0 n = n + x end return n", "for i = 1, 'a' do end", "for i = 1, 2, 0 do end", "for i = 2, 1 do error() end",
 		"local i = 0 while i < 5 do i = i + 1 if i == 3 then break elseif i == 9 then i = 0 else local y = i end end return i", "if nil then return 1 elseif false then return 2 elseif 3 then return 3 else return 4 end", "if 1 then end return 2", "if nil then return 1 else return 2 end", "local x = 1 do local x = 2 x = 3 end return x", "for i = 1, 2 do local a if i == 2 then return a or 'none' end a = 5 end",
-		"local function f(n) if n < 2 then return n end return f(n - 1) + f(n - 2) end return f(10)", "local function f() end return f() == nil", "local function f(a, b, c) local d = c return {a, b, d} end return f(1, 2, 3)", "local function f() return f() end return f()", "local function f(a) local function g(b) return b * 2 end return g(a) + 1 end return f(f(3))", "local a = 7 local function f(x) x = 2 return x end f(1) return a", "local function f(x) return x end return f(1) + f(2) * f(f(3))", "local a, b = 1, 2 len('x') return a * 10 + b", "local a = 3 tostring(1) tostring(2) return a",
+		"local function f(n) if n < 2 then return n end return f(n - 1) + f(n - 2) end return f(10)", "local function f() end return f() == nil", "local function f(a, b, c) local d = c return {a, b, d} end return f(1, 2, 3)", "local function f() return f() end return f()", "local function f(a) local function g(b) return b * 2 end return g(a) + 1 end return f(f(3))", "local a = 7 local function f(x) x = 2 return x end f(1) return a", "local function f(x) return x end return f(1) + f(2) * f(f(3))", "local a, b = 1, 2 len('x') return a * 10 + b", "local function f(x) return x + 1 end local a = f(1) a = f(a) return a", "local a, b = len('xyz'), tostring(5) return {a, b}", "local function f(x) return x end local a = 1 local t = {f(2), k = f(a), [f('z')] = f(4)} return {t[1], t.k, t.z, a}", "local function f(x) return x end if f(nil) then return 1 elseif f(2) then return f(3) end", "local function f(x) return x end local a = f(1) and f(2) or f(3) return a", "local a = 3 tostring(1) tostring(2) return a",
 		"return 1 and nil or 'x'", "return nil and error() or false or 7", "return not (1 and nil)", "return -(-5) - -#'abc'", "return 'a' .. 'b' .. 1 .. 2", "return 1 < 2 and 2 <= 2 and 3 > 2 and 3 >= 3 and 1 ~= 2 and 1 == 1", "return 7 / 2 * 10 + 7 % 3", "return nil + 1", "local t = {} t.x.y = 1", "local t = {} t.a = {} t.a.b = 5 t['c'] = t.a.b + 1 return t.c", "return ({10, 20, 30})[2]", "return concat({1, 2, 3}, sub('abc', 2, 2))", "return rep('x', 3) .. char(65, 66) .. find('abc', 'c')", "return type({}) .. type(nil) .. tonumber('12')", "return len()", "error('x')", "local t = {1, 2, 3} remove(t, 1) insert(t, 9) return t", "return keys({b = 1, a = 2})", "local t = {} t[t] = 1", "return 9223372036854775807 + 1", "local KEYS = {5} return KEYS[1]", "local a, b = 'x' .. 'y' return {a, b == nil}", "return " + strings.Repeat("(", 90) + "1" + strings.Repeat(")", 90), "return 1" + strings.Repeat(" + 1", 95), "return 1" + strings.Repeat(" .. 1", 95), "return " + strings.Repeat("- ", 95) + "1", "local a = 1 while a < 300 do a = a + a end return a",
 	} {
 		p, at, e := compile.Text(s)
@@ -235,6 +235,16 @@ func TestErrors(t *testing.T) {
 		if n, _, f := syntax.Parse(c.s); f == api.OK {
 			if q, f := compile.Tree(n); f != e || !code.Same(p, q) {
 				t.Error(i, f)
+			}
+		}
+	}
+	for n := 240; n < 260; n++ { // there is a way to make it, or there is not: never more registers than may be
+		for _, s := range []string{"return char(" + operands(n) + ")", "char(" + operands(n) + ")", "local a = 1 + char(" + operands(n) + ")", "local x x = {char(" + operands(n) + ")}"} {
+			p, _, e := compile.Text(s)
+			if e == api.OK {
+				fits(t, s, p)
+			} else if e != api.ErrRegs {
+				t.Error(n, e)
 			}
 		}
 	}

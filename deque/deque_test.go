@@ -58,7 +58,7 @@ func TestPlace(t *testing.T) {
 		ok   bool
 	}{
 		{5, -1, 4, true}, {5, 5, 0, false}, {5, -6, 0, false}, {5, -5, 0, true}, {5, 4, 4, true}, {5, 0, 0, true}, {0, 0, 0, false}, {0, -1, 0, false}, {-2, -1, 0, false}, {-2, -2, 0, false},
-		{1, math.MinInt64, 0, false}, {1, math.MaxInt64, 0, false}, {math.MinInt, math.MinInt64, 0, false},
+		{1, 0, 0, true}, {1, -1, 0, true}, {1, 1, 0, false}, {1, -2, 0, false}, {1, math.MinInt64, 0, false}, {1, math.MaxInt64, 0, false}, {math.MinInt, math.MinInt64, 0, false},
 	} {
 		if got, ok := deque.Place(c.n, c.at); got != c.want || ok != c.ok {
 			t.Error(i, got, ok)

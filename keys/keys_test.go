@@ -148,6 +148,10 @@ func TestRefused(t *testing.T) {
 	if n, e := k.Apply(); n != 0 || e != api.OK {
 		t.Error(n, e)
 	}
+	most := long[1:]
+	if n, e := k.Apply(text(most, most), field("h", most, most), named(api.EffAdd, "s", most), rank("r", most, 1), item(api.EffHead, "l", most), at("l", 0, most), plain(api.EffDrop, most)); n != 7 || e != api.OK {
+		t.Error("the longest texts", n, e)
+	}
 }
 
 func TestItems(t *testing.T) {
@@ -348,6 +352,11 @@ func TestMemory(t *testing.T) {
 	if !k.Same(was) {
 		t.Error("an answer shares memory")
 	}
+	again, _ := keys.Of(api.Entry{Key: "r", Thing: ranked(api.Rank{Name: "b", Score: 1}, api.Rank{Name: "a", Score: 2})})
+	if n, e := again.Apply(rank("r", "b", 5), named(api.EffUnrank, "r", "a"), rank("r", "c", 0)); n != 3 || e != api.OK {
+		t.Error(n, e)
+	}
+	is(t, again, "r", ranked(api.Rank{Name: "c"}, api.Rank{Name: "b", Score: 5}))
 	l := []string{"a", "b"}
 	o, _ := keys.Of(api.Entry{Key: "k", Thing: set(l...)})
 	l[0] = "z"

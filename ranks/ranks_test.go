@@ -239,6 +239,11 @@ func TestSetAndDrop(t *testing.T) {
 		t.Error("Score of one that is gone")
 	}
 	holds(t, r, before)
+	long := strings.Repeat("x", api.MaxText)
+	if fresh, e := r.Set(long, 1, 8); !fresh || e != api.OK || !r.Drop(long) {
+		t.Error("the longest name", fresh, e)
+	}
+	holds(t, r, before)
 }
 
 func TestNil(t *testing.T) {

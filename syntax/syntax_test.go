@@ -84,7 +84,7 @@ func TestPlaces(t *testing.T) {
 		";": 0, "f();;": 4, "end": 0, "f() end": 4, "do": 2, "do end end": 7, "do else end": 3, "if a": 4, "if a do": 5, "if then end": 3, "if a then": 9, "if a then elseif end": 17, "if a then else elseif b then end": 15, "while a": 7, "while do end": 6, "while a do": 10, "while a then end": 8,
 		"for": 3, "for 1 = 2": 4, "for i in x": 6, "for i = 1 do end": 10, "for i = 1, 2, 3, 4 do end": 15, "for i, j = 1, 2 do end": 5, "for i = 1, do end": 11, "local": 5, "local 1": 6, "local a b": 8, "local a,": 8, "local a = ": 10, "local a = 1, 2": 10, "local a, b =  1, 2, 3": 14, "local end": 6, "local a = 1,": 12,
 		"local function": 14, "local function 1": 15, "local function f": 16, "local function f end": 17, "local function f(": 17, "local function f(a": 18, "local function f(a,)": 19, "local function f(1)": 17, "local function f()": 18, "function f() end": 0, "local function f() return end end": 30, "then": 0, "in": 0, "and": 0, "not a": 0, "nil": 0,
-		"return +": 7, "return 1 +": 10, "return 1 1": 9, "return (1": 9, "return ()": 8, "return f(": 9, "return f(1": 10, "return f(1,)": 11, "return f(,)": 9, "return {": 8, "return {1": 9, "return {,}": 8, "return {1,,2}": 10, "return {a=}": 10, "return {[1]}": 11, "return {[1 = 2}": 11, "return {'a' = 1}": 12, "return a.1": 9, "return a.": 9, "return a.end": 9, "return a[": 9, "return a[1": 10, "return a[]": 9, "return 'a'.b": 10, "return {}[1]": 9, "return 1[1]": 8, "return 'a'(1)": 10, "return f()()": 10, "return a.b()": 10, "return (f)()": 10, "return not": 10, "return a not b": 9, "return a = b": 9, "return a ; b()": 11, "return return": 7, "return a : b": 9, "return if": 7, "break;x()": 6, "break break": 6, "a.b.c": 0, "a:b()": 0, "return - ": 9, "return a ..": 11, "return a ~= ": 12,
+		"return +": 7, "return 1 +": 10, "return 1 1": 9, "return (1": 9, "return ()": 8, "return f(": 9, "return f(1": 10, "return f(1,)": 11, "return f(,)": 9, "return {": 8, "return {1": 9, "return {,}": 8, "return {1,,2}": 10, "return {a=}": 10, "return {a=": 10, "return {a": 9, "return {[1]}": 11, "return {[1 = 2}": 11, "return {'a' = 1}": 12, "return a.1": 9, "return a.": 9, "return a.end": 9, "return a[": 9, "return a[1": 10, "return a[]": 9, "return 'a'.b": 10, "return {}[1]": 9, "return 1[1]": 8, "return 'a'(1)": 10, "return f()()": 10, "return a.b()": 10, "return (f)()": 10, "return not": 10, "return a not b": 9, "return a = b": 9, "return a ; b()": 11, "return return": 7, "return a : b": 9, "return if": 7, "break;x()": 6, "break break": 6, "a.b.c": 0, "a:b()": 0, "return - ": 9, "return a ..": 11, "return a ~= ": 12,
 	} {
 		if n, at, e := syntax.Parse(s); e != api.ErrSyntax || at != want || !syntax.Same(n, api.Node{}) {
 			t.Errorf("%s: %d, not %d %v", s, at, want, e)
@@ -194,6 +194,54 @@ func TestCheck(t *testing.T) {
 	for i, n := range []api.Node{script(text(most + "x")), script(kind(api.NodeTable, many...))} {
 		if s, e := syntax.Print(n); s != "" || e != api.ErrLong {
 			t.Error(i, len(s), e)
+		}
+	}
+}
+
+// depth tells how many nodes deep a tree is.
+func depth(n api.Node) int {
+	most := 0
+	for _, k := range n.Kids {
+		most = max(most, depth(k))
+	}
+	return most + 1
+}
+
+// TestDepths: whatever stands deepest, at MaxDepth it may be, and one deeper not.
+func TestDepths(t *testing.T) {
+	one := num(1)
+	neg := func(n api.Node) api.Node { return kind(api.NodeNeg, n) }
+	counted := api.Node{Kind: api.NodeFor, Names: []string{"i"}, Kids: []api.Node{one, one, block()}}
+	deep := counted
+	deep.Kids = []api.Node{one, neg(one), block()}
+	body := api.Node{Kind: api.NodeFor, Names: []string{"i"}, Kids: []api.Node{one, one, block(kind(api.NodeBreak))}}
+	for i, s := range []api.Node{
+		ret(), kind(api.NodeBreak), local("a"), local("a", one), assign(name("a"), one), assign(index(one, one), one), call("f"), call("f", one), kind(api.NodeDo, block()), kind(api.NodeIf, one, block()), kind(api.NodeIf, neg(one), block()), kind(api.NodeIf, one, block(ret())), kind(api.NodeIf, one, block(), block(ret())), kind(api.NodeIf, one, block(), neg(neg(one)), block()), kind(api.NodeWhile, one, block()), kind(api.NodeWhile, neg(one), block()), kind(api.NodeWhile, one, block(ret())), counted, deep, body,
+		api.Node{Kind: api.NodeFunc, Name: "f", Kids: []api.Node{block()}}, api.Node{Kind: api.NodeFunc, Name: "f", Kids: []api.Node{block(ret())}}, ret(one), ret(index(one, neg(one))), ret(bin("+", one, neg(one))), ret(bin("+", neg(one), one)), ret(kind(api.NodeTable)), ret(kind(api.NodeTable, item(one))), ret(kind(api.NodeTable, kind(api.NodePair, neg(one), one))), ret(kind(api.NodeTable, kind(api.NodePair, one, neg(one)))), ret(call("f", neg(one))), ret(kind(api.NodeNot, one)), ret(kind(api.NodeLen, one)),
+	} {
+		for dos := 46; dos < 51; dos++ {
+			n := nest(dos, func(n api.Node) api.Node { return block(kind(api.NodeDo, n)) }, block(s))
+			want := api.OK
+			if depth(n) > api.MaxDepth {
+				want = api.ErrArg
+			}
+			if got := syntax.Check(n); got != want {
+				t.Error(i, depth(n), got)
+			}
+			// The same, one deeper by a condition's block.
+			n = block(kind(api.NodeIf, nest(depth(n)-2, neg, one), block()), call("f"))
+			if depth(n) > api.MaxDepth == (syntax.Check(n) == api.OK) {
+				t.Error("condition", i, depth(n))
+			}
+		}
+	}
+	tables := func(n api.Node) api.Node { return kind(api.NodeTable, item(n)) }
+	for k := 44; k < 52; k++ {
+		for _, in := range []api.Node{one, kind(api.NodeTable), neg(one)} {
+			n := script(nest(k, tables, in))
+			if depth(n) > api.MaxDepth == (syntax.Check(n) == api.OK) {
+				t.Error("table", depth(n))
+			}
 		}
 	}
 }

@@ -55,7 +55,7 @@ func TestOps(t *testing.T) {
 		{"..", text("a"), num(1), text("a1"), ""}, {"..", num(-1), num(2), text("-12"), ""}, {"..", text(""), text(""), text(""), ""}, {"..", text("a"), truth(true), api.Val{}, "type"}, {"..", api.Val{}, text("a"), api.Val{}, "type"}, {"..", table(0), text("a"), api.Val{}, "type"},
 		{"+", text("a"), num(1), api.Val{}, "type"}, {"+", num(1), text("1"), api.Val{}, "type"}, {"-", api.Val{}, num(1), api.Val{}, "type"}, {"*", truth(true), num(1), api.Val{}, "type"}, {"/", table(0), num(0), api.Val{}, "type"}, {"%", num(1), api.Val{}, api.Val{}, "type"},
 		{"==", table(0), table(1), truth(false), ""}, {"==", table(1), table(1), truth(true), ""}, {"==", num(1), text("1"), truth(false), ""}, {"==", api.Val{}, truth(false), truth(false), ""}, {"==", api.Val{}, api.Val{}, truth(true), ""}, {"==", text("a"), text("a"), truth(true), ""}, {"~=", text("a"), text("a"), truth(false), ""}, {"~=", text("a"), text("b"), truth(true), ""}, {"==", table(9), table(9), truth(true), ""}, {"~=", num(0), truth(false), truth(true), ""}, {"==", truth(true), truth(true), truth(true), ""},
-		{"<", num(1), num(2), truth(true), ""}, {"<", num(2), num(2), truth(false), ""}, {"<=", num(2), num(2), truth(true), ""}, {">", num(2), num(1), truth(true), ""}, {">=", num(1), num(2), truth(false), ""}, {">=", lo, lo, truth(true), ""}, {"<", lo, hi, truth(true), ""},
+		{"<", num(1), num(2), truth(true), ""}, {"<", num(2), num(2), truth(false), ""}, {"<=", num(2), num(2), truth(true), ""}, {">", num(2), num(1), truth(true), ""}, {">=", num(1), num(2), truth(false), ""}, {">", num(2), num(2), truth(false), ""}, {"<=", num(3), num(2), truth(false), ""}, {"<", text("a"), text("a"), truth(false), ""}, {">", text("a"), text("a"), truth(false), ""}, {">=", text("a"), text("a"), truth(true), ""}, {"<=", text("b"), text("a"), truth(false), ""}, {">=", lo, lo, truth(true), ""}, {"<", lo, hi, truth(true), ""},
 		{"<", text("a"), text("b"), truth(true), ""}, {"<", text(""), text("\x00"), truth(true), ""}, {">", text("\xff"), text("z"), truth(true), ""}, {"<=", text("a"), text("a"), truth(true), ""}, {">=", text("a"), text("aa"), truth(false), ""}, {">", text("B"), text("a"), truth(false), ""},
 		{"<", num(1), text("2"), api.Val{}, "type"}, {"<=", truth(false), truth(true), api.Val{}, "type"}, {">", api.Val{}, api.Val{}, api.Val{}, "type"}, {">=", table(0), table(0), api.Val{}, "type"},
 		{"and", num(1), num(1), api.Val{}, "type"}, {"or", num(1), num(1), api.Val{}, "type"}, {"", num(1), num(1), api.Val{}, "type"}, {"=", num(1), num(1), api.Val{}, "type"}, {"not", num(1), num(1), api.Val{}, "type"}, {"++", num(1), num(1), api.Val{}, "type"},
@@ -164,6 +164,20 @@ func TestTables(t *testing.T) {
 	set(text(""), table(2))
 	set(text("none"), api.Val{})
 	length(2)
+	set(num(9), num(9))
+	set(num(9), api.Val{})
+	set(num(math.MinInt64+1), api.Val{})
+	set(num(-1), api.Val{})
+	set(num(-1), num(0))
+	length(2)
+	set(num(3), num(3))
+	length(4)
+	set(num(4), api.Val{})
+	length(3)
+	set(num(3), api.Val{})
+	length(2)
+	set(num(4), num(4))
+	length(2)
 	if v, _ := h.Get(tab, num(1)); v != table(1) {
 		t.Error(v)
 	}
@@ -222,6 +236,10 @@ func TestRefused(t *testing.T) {
 	if h.Set(table(0), num(2), text(long)) != "long" || h.Set(table(0), text(long), num(1)) != "long" || h.Set(table(0), num(2), table(7)) != "key" {
 		t.Error("long, key")
 	}
+	if most := text(long[1:]); h.Set(table(0), most, most) != "" || h.Set(table(0), most, api.Val{}) != "" {
+		t.Error("the longest text")
+	}
+	spent++
 	if v, why := h.Get(table(0), text(long)); v != (api.Val{}) || why != "" {
 		t.Error(why)
 	}
