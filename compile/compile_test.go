@@ -221,7 +221,7 @@ func TestErrors(t *testing.T) {
 		at   int
 		want api.Errno
 	}{
-		{"return +", 7, api.ErrSyntax}, {"a @", 2, api.ErrWord}, {long, 0, api.ErrLong}, {strings.Repeat("do ", 101) + strings.Repeat("end ", 101), 300, api.ErrDeep}, {"return a", 0, api.ErrName}, {"local function f() end f(1)", 0, api.ErrCount}, {"break", 0, api.ErrLoop}, {"local " + all + ", y", 0, api.ErrMany}, {"local a, a", 0, api.ErrTwice},
+		{"return +", 7, api.ErrSyntax}, {"a @", 2, api.ErrWord}, {long, 0, api.ErrLong}, {strings.Repeat("do ", 101) + strings.Repeat("end ", 101), 300, api.ErrDeep}, {"return a", 0, api.ErrName}, {"local function f() end f(1)", 0, api.ErrCount}, {"break", 0, api.ErrLoop}, {"local " + all + ", y", 0, api.ErrMany}, {"local b if nil then local function f() break end end", 0, api.ErrLoop}, {"local b for i = 1, 2 do local function f() return b end end", 0, api.ErrName}, {"local a, a", 0, api.ErrTwice},
 		{"return char(" + operands(200) + ")", 0, api.OK}, {"char(" + operands(1000) + ")", 0, api.ErrRegs}, {"return char(" + operands(600) + ")", 0, api.ErrRegs}, {"local " + all + " return char(" + operands(200) + ")", 0, api.OK}, {"local " + all + " return char(" + operands(600) + ")", 0, api.ErrRegs},
 		{many(20000), 0, api.OK}, {many(40000), 0, api.ErrLong}, {many(40000) + "char(" + operands(1000) + ")", 0, api.ErrRegs}, {many(40000) + "return y", 0, api.ErrName}, {"local function f(" + all + ") return x0 + x249 end return f(" + operands(250) + ")", 0, api.OK}, {"local t = {" + operands(5000) + "} return #t", 0, api.OK}, {"local t = {" + operands(40000) + "}", 0, api.ErrLong},
 	} {

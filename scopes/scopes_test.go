@@ -153,6 +153,43 @@ func TestErrors(t *testing.T) {
 	}
 }
 
+// nests puts a script into parts that others may stand in, n of them in one another, each way.
+func nests(s string, n int) []string {
+	if n == 0 {
+		return []string{s}
+	}
+	var out []string
+	for _, in := range nests(s, n-1) {
+		out = append(out,
+			"do "+in+" end", "if nil then "+in+" end", "if nil then else "+in+" end", "while nil do "+in+" end", "for i = 1, 2 do "+in+" end",
+			"local function g(p) "+in+" end", "local u, v "+in, "do local w end "+in)
+	}
+	return out
+}
+
+// TestErrorsWithin: what is wrong inside a function is told wherever the function stands.
+func TestErrorsWithin(t *testing.T) {
+	for _, c := range []struct {
+		s    string
+		want api.Errno
+	}{
+		{"return zz", api.ErrName}, {"return u", api.ErrName}, {"zz()", api.ErrName}, {"f()", api.ErrCount}, {"break", api.ErrLoop},
+		{"local x, x", api.ErrTwice}, {"KEYS = 1", api.ErrTwice}, {"local function h(x, x) end", api.ErrTwice}, {"local " + locals(0, 250), api.ErrMany},
+		{"local function h() if q then return q end end", api.ErrName}, {"while q do local x local function h() break end end", api.ErrLoop},
+		{"local x while q do break end return f(x)", api.OK},
+	} {
+		for _, s := range nests("local function f(q) "+c.s+" end", 3) {
+			out, l, e := scopes.Resolve(parsed(t, s))
+			if e != c.want || e != api.OK && (l != nil || !syntax.Same(out, api.Node{})) {
+				t.Errorf("%.120s: %v, want %v", s, e, c.want)
+			}
+		}
+	}
+	if _, _, e := scopes.Resolve(parsed(t, "local b do "+strings.Repeat("local function f() local c end ", 1000)+" end")); e != api.ErrMany {
+		t.Error("1001 functions in a block:", e)
+	}
+}
+
 func TestRest(t *testing.T) {
 	for _, s := range strings.Fields("call try error type tostring tonumber len sub rep find byte char concat insert remove keys") {
 		if !scopes.Builtin(s) || scopes.Builtin(s+"s") || scopes.Builtin(strings.ToUpper(s)) {
